@@ -1,0 +1,1 @@
+"""Offing: a light client."""

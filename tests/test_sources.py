@@ -1,0 +1,90 @@
+"""Checks what every file of the package must keep to: sizes, characters, imports, and where names are defined."""
+
+import ast
+import importlib
+import inspect
+import pathlib
+import unittest
+
+PACKAGE = pathlib.Path(__file__).resolve().parent.parent / "offing"
+LIBRARY = ("heapq", "math", "itertools", "collections")
+FUNCTIONS = {
+    "offing.hashing": {"collision": "first second", "is_collision": "hasher answer"},
+    "offing.signing": {
+        "digits_of": "width message", "verify": "hasher public message signature",
+        "signing_break": "signer signed message signature"},
+}
+CLASSES = {
+    "offing.errors": {
+        "OffingError": {}, "BadNumbers": {"__init__": "self why"}, "BadBlock": {"__init__": "self fault"}},
+    "offing.hashing": {
+        "Hasher": {"__init__": "self width", "digest": "self tag numbers", "is_digest": "self number"}},
+    "offing.signing": {
+        "Signer": {
+            "__init__": "self hasher secret levels", "sign": "self index message",
+            "word": "self index chain step"}},
+}
+
+
+def parameters(function):
+    return " ".join(inspect.signature(function).parameters)
+
+
+class Sources(unittest.TestCase):
+    def files(self):
+        found = sorted(path for path in PACKAGE.rglob("*") if path.is_file() and path.suffix != ".pyc")
+        self.assertIn(PACKAGE / "__init__.py", found)
+        return found
+
+    def test_files_and_lines(self):
+        for path in self.files():
+            self.assertRegex(str(path.relative_to(PACKAGE)), r"^[a-z0-9_/]+\.py$")
+            text = path.read_text("ascii")
+            lines = text.split("\n")
+            self.assertLessEqual(len(lines), 399, path)
+            for at, line in enumerate(lines, 1):
+                self.assertLessEqual(len(line), 120, (path, at))
+                self.assertTrue(all(" " <= sign <= "~" for sign in line), (path, at))
+
+    def test_functions_are_short(self):
+        for path in self.files():
+            for node in ast.walk(ast.parse(path.read_text())):
+                if isinstance(node, ast.FunctionDef):
+                    self.assertLessEqual(node.end_lineno - node.lineno + 1, 40, (path, node.name))
+
+    def test_imports(self):
+        for path in self.files():
+            tree = ast.parse(path.read_text())
+            for node in ast.walk(tree):
+                self.assertNotIsInstance(node, ast.Import)
+                if isinstance(node, ast.ImportFrom):
+                    self.assertEqual(node.level, 0)
+                    self.assertIn(node, tree.body)
+                    self.assertTrue(node.module.startswith("offing.") or node.module in LIBRARY, (path, node.module))
+
+    def test_integers_alone(self):
+        for path in self.files():
+            for node in ast.walk(ast.parse(path.read_text())):
+                self.assertNotIsInstance(node, ast.Div, path)
+                if isinstance(node, ast.Constant):
+                    self.assertNotIsInstance(node.value, (float, complex), path)
+
+
+class Interface(unittest.TestCase):
+    def test_functions_stand_in_their_files(self):
+        for name, functions in FUNCTIONS.items():
+            module = importlib.import_module(name)
+            for function, expected in functions.items():
+                found = getattr(module, function)
+                self.assertEqual(found.__module__, name)
+                self.assertEqual(parameters(found), expected, (name, function))
+
+    def test_classes_and_methods_stand_in_their_files(self):
+        for name, classes in CLASSES.items():
+            module = importlib.import_module(name)
+            for word, methods in classes.items():
+                found = getattr(module, word)
+                self.assertEqual(found.__module__, name)
+                for method, expected in methods.items():
+                    self.assertIn(method, vars(found))
+                    self.assertEqual(parameters(vars(found)[method]), expected, (word, method))
