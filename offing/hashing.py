@@ -31,6 +31,11 @@ class Hasher:
         return 0 <= number < 1 << self.width
 
 
+def are_digests(hasher, numbers):
+    """Tell whether all of a list or tuple of integers are digests."""
+    return all([hasher.is_digest(number) for number in numbers])
+
+
 def limbs_of(numbers):
     """Return the limbs of a list or tuple of numbers."""
     limbs = [len(numbers)]
@@ -75,3 +80,15 @@ def is_input(pair):
     """Tell whether a digest is made of a pair of a tag and numbers."""
     tag, numbers = pair
     return 0 <= tag <= GREATEST_TAG and all([number >= 0 for number in numbers])
+
+
+def first_collision(own_inputs, told_inputs):
+    """Return the collision of the first inputs in which two rows differ, or None.
+
+    In both rows each input but the first has a digest that is told by those before it, so the
+    first ones that differ have one digest if the first of both rows have one.
+    """
+    for own, told in zip(own_inputs, told_inputs):
+        if own != told:
+            return collision(own, told)
+    return None

@@ -1,6 +1,6 @@
 """Signatures by one-time keys, and what it takes to break them (chapter 05)."""
 
-from offing.hashing import collision
+from offing.hashing import are_digests, collision, first_collision
 
 STEP_TAG = 4
 KEY_TAG = 5
@@ -109,7 +109,7 @@ def has_shape(hasher, signature):
         return False
     if not 0 <= signature[0] < 1 << levels:
         return False
-    return all([hasher.is_digest(number) for number in signature[1:]])
+    return are_digests(hasher, signature[1:])
 
 
 def told_inputs(hasher, message, signature):
@@ -136,21 +136,13 @@ def signing_break(signer, signed, message, signature):
         return None
     # With other levels the index may be beyond the keys, but then the top tells already.
     own = signer.sign(signature[0] & ((1 << signer.levels) - 1), message)
-    found = tree_collision(signer.hasher, message, own, signature)
+    own_tree = told_inputs(signer.hasher, message, own)
+    found = first_collision(own_tree, told_inputs(signer.hasher, message, signature))
     if found is None:
         found = chain_collision(signer.hasher, message, own, signature)
     if found is None:
         found = found_word(signer.hasher.width, signed, message, signature)
     return found
-
-
-def tree_collision(hasher, message, own, other):
-    """Return the collision of the first inputs of the tree, from above, in which two signatures differ, or None."""
-    other_inputs = told_inputs(hasher, message, other)
-    for place, told in enumerate(told_inputs(hasher, message, own)):
-        if told != other_inputs[place]:
-            return collision(told, other_inputs[place])
-    return None
 
 
 def chain_collision(hasher, message, own, other):

@@ -13,6 +13,20 @@ FUNCTIONS = {
     "offing.signing": {
         "digits_of": "width message", "verify": "hasher public message signature",
         "signing_break": "signer signed message signature"},
+    "offing.numbers": {
+        "numbers_of_row": "row", "numbers_of_members": "members", "numbers_of_votes": "votes",
+        "numbers_of_block": "block", "row_of": "numbers", "block_of": "numbers"},
+    "offing.lists": {
+        "list_root": "hasher items", "list_proof": "hasher items k", "growth_proof": "hasher items old",
+        "list_check": "hasher root count k item proof", "growth_check": "hasher old_root old root count proof",
+        "list_break": "hasher items k item proof", "growth_break": "hasher items old_root old proof"},
+    "offing.validators": {
+        "members_fault": "members", "members_root": "hasher members", "members_numbers": "members",
+        "total": "members", "weight_of": "members publics", "more_than": "members publics parts whole",
+        "signers": "hasher message members votes"},
+    "offing.headers": {
+        "header_digest": "hasher header", "vote_message": "hasher header", "block_signers": "hasher block",
+        "lists_fault": "hasher block", "block_fault": "hasher chain block", "follows_fault": "hasher old new"},
 }
 CLASSES = {
     "offing.errors": {
@@ -23,6 +37,15 @@ CLASSES = {
         "Signer": {
             "__init__": "self hasher secret levels", "sign": "self index message",
             "word": "self index chain step"}},
+    "offing.numbers": {
+        "Numbers": {
+            "__init__": "self numbers", "row": "self", "members": "self", "votes": "self", "block": "self",
+            "one": "self", "some": "self count", "count": "self size", "close": "self"}},
+    "offing.headers": {
+        "Header": {
+            "__init__": "self chain height time previous state members following", "__eq__": "self other",
+            "fields": "self"},
+        "Block": {"__init__": "self header members following votes", "__eq__": "self other"}},
 }
 
 
