@@ -11,6 +11,14 @@ def left_size(size):
     return 1 << ((size - 1).bit_length() - 1)
 
 
+def part_with(size, place):
+    """Return whether a place is in the left part of a node, the size of the part that has it, and the place there."""
+    left = left_size(size)
+    if place < left:
+        return (True, left, place)
+    return (False, size - left, place - left)
+
+
 def list_root(hasher, items):
     """Return the root of a list of items."""
     size = len(items)
@@ -62,13 +70,9 @@ def item_way(count, k, most):
     way = []
     size = count
     while size > 1 and len(way) <= most:
-        left = left_size(size)
-        way.append((size, k < left))
-        if k < left:
-            size = left
-        else:
-            size -= left
-            k -= left
+        goes_left, part, k = part_with(size, k)
+        way.append((size, goes_left))
+        size = part
     return way
 
 
@@ -124,13 +128,9 @@ def growth_way(count, old, most):
     way = []
     size = count
     while 0 < old < size and len(way) < most:
-        left = left_size(size)
-        way.append((size, old < left))
-        if old < left:
-            size = left
-        else:
-            size -= left
-            old -= left
+        goes_left, part, old = part_with(size, old)
+        way.append((size, goes_left))
+        size = part
     return way
 
 

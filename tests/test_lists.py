@@ -138,11 +138,12 @@ class Proofs(unittest.TestCase):
     def test_numbers_that_are_no_digests_but_make_the_root(self):
         hasher, items, tried = Hasher(4), [1, 2, 3], 0
         root = list_root(hasher, items)
+        one, three = hasher.digest(0, [1]), hasher.digest(0, [3])
         for number in list(range(16, 400)) + list(range(-400, 0)):
-            if hasher.digest(1, [3, hasher.digest(1, [2, hasher.digest(0, [1]), number]), hasher.digest(0, [3])]) == root:
-                self.assertIs(list_check(hasher, root, 3, 0, 1, (number, hasher.digest(0, [3]))), False)
+            if hasher.digest(1, [3, hasher.digest(1, [2, one, number]), three]) == root:
+                self.assertIs(list_check(hasher, root, 3, 0, 1, (number, three)), False)
                 tried += 1
-            if hasher.digest(1, [3, number, hasher.digest(0, [3])]) == root:
+            if hasher.digest(1, [3, number, three]) == root:
                 self.assertIs(list_check(hasher, root, 3, 2, 3, (number,)), False)
                 tried += 1
         self.assertGreater(tried, 50)

@@ -90,7 +90,8 @@ def spoiled(numbers, chance):
         yield numbers[at + 1:]
         yield numbers[:at] + numbers[at + 1:]
         left = len(numbers) - at - 1
-        for other in (-1, 0, 1, 2, numbers[at] + 1, numbers[at] - 1, left // 2, left // 2 + 1, left, left + 1, BIG, -BIG):
+        counts = (left // 2, left // 2 + 1, left, left + 1, BIG, -BIG)
+        for other in (-1, 0, 1, 2, numbers[at] + 1, numbers[at] - 1, *counts):
             yield numbers[:at] + [other] + numbers[at + 1:]
         yield numbers[:at] + [chance.randint(-2, 4)] + numbers[at:]
     yield numbers + [0]

@@ -27,6 +27,12 @@ FUNCTIONS = {
     "offing.headers": {
         "header_digest": "hasher header", "vote_message": "hasher header", "block_signers": "hasher block",
         "lists_fault": "hasher block", "block_fault": "hasher chain block", "follows_fault": "hasher old new"},
+    "offing.maps": {
+        "map_root": "hasher pairs", "map_proof": "hasher pairs key", "range_proof": "hasher pairs low high",
+        "map_check": "hasher root key proof", "range_check": "hasher root low high proof",
+        "map_changed": "hasher root key value proof", "map_break": "hasher pairs key proof",
+        "range_break": "hasher pairs low high proof"},
+    "offing.trust": {"step_fault": "hasher policy trusted block now"},
 }
 CLASSES = {
     "offing.errors": {
@@ -46,6 +52,12 @@ CLASSES = {
             "__init__": "self chain height time previous state members following", "__eq__": "self other",
             "fields": "self"},
         "Block": {"__init__": "self header members following votes", "__eq__": "self other"}},
+    "offing.node": {
+        "Node": {
+            "__init__": "self hasher chain time members following pairs",
+            "grow": "self time changes following signers", "height": "self", "block": "self height",
+            "pairs_at": "self height", "answers": "self", "plan": "self start height policy now"}},
+    "offing.trust": {"Policy": {"__init__": "self period drift", "__eq__": "self other"}},
 }
 
 
