@@ -54,6 +54,17 @@ class Block:
         )
 
 
+def copied_header(header):
+    """Return a header that is equal to another one."""
+    fields = header.fields()
+    return Header(*fields)
+
+
+def copied(block):
+    """Return a block that is equal to another one, with a header of its own."""
+    return Block(copied_header(block.header), block.members, block.following, block.votes)
+
+
 def header_digest(hasher, header):
     """Return the digest of a header."""
     return hasher.digest(HEADER_TAG, header.fields())
@@ -83,9 +94,14 @@ def lists_fault(hasher, block):
     return None
 
 
+def has_negative(header):
+    """Tell whether a number of a header is negative."""
+    return any([number < 0 for number in header.fields()])
+
+
 def block_fault(hasher, chain, block):
     """Return the first fault that a block of a chain has for itself, or None."""
-    if any([number < 0 for number in block.header.fields()]):
+    if has_negative(block.header):
         return "header"
     if block.header.chain != chain:
         return "chain"

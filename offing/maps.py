@@ -138,6 +138,17 @@ def told_inputs(hasher, key, proof):
     return inputs[::-1]
 
 
+def changed_map(pairs, changes):
+    """Return a map behind changes, pairs of a key and a value, or None to take the key away; a new dict."""
+    behind = dict(pairs)
+    for key, value in changes:
+        if value is None:
+            behind.pop(key, None)
+        else:
+            behind[key] = value
+    return behind
+
+
 def map_changed(hasher, root, key, value, proof):
     """Return the root behind setting a key to a value or taking it away; None for a proof that is not accepted."""
     if not is_accepted(hasher, root, key, proof):
@@ -175,6 +186,15 @@ def map_break(hasher, pairs, key, proof):
         return None
     own = told_inputs(hasher, key, map_proof(hasher, pairs, key))
     return first_collision(own, told_inputs(hasher, key, proof))
+
+
+def first_map_break(hasher, maps, keys, proofs):
+    """Return the collision of the first proof of a key that is not the true one in its map, otherwise None."""
+    for pairs, key, proof in zip(maps, keys, proofs):
+        found = map_break(hasher, pairs, key, proof)
+        if found is not None:
+            return found
+    return None
 
 
 def node_size(depth):

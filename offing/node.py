@@ -1,7 +1,7 @@
 """The full node, which has a whole chain (chapter 08)."""
 
-from offing.headers import Block, Header, header_digest, vote_message
-from offing.maps import map_root
+from offing.headers import Block, Header, copied, header_digest, vote_message
+from offing.maps import changed_map, map_root
 from offing.trust import step_fault
 from offing.validators import members_root
 
@@ -17,23 +17,6 @@ def votes_for(hasher, header, members, signers):
     return sorted(votes, key=lambda vote: vote[0])
 
 
-def changed_pairs(pairs, changes):
-    """Return a state behind changes, a new dict."""
-    behind = dict(pairs)
-    for key, value in changes.items():
-        if value is None:
-            behind.pop(key, None)
-        else:
-            behind[key] = value
-    return behind
-
-
-def copied(block):
-    """Return a block that is equal to another one."""
-    fields = block.header.fields()
-    return Block(Header(*fields), block.members, block.following, block.votes)
-
-
 class Node:
     """A node with the blocks and the states of a chain, from the height 0 on."""
 
@@ -42,12 +25,12 @@ class Node:
         self.chain = chain
         self._blocks = []
         self._states = []
-        self._add(time, 0, members, following, dict(pairs), [])
+        self._add(time, 0, members, following, pairs, [])
 
     def grow(self, time, changes, following, signers):
         """Add a block with changes of the state, signed by those signers who are members."""
         last = self._blocks[-1]
-        pairs = changed_pairs(self._states[-1], changes)
+        pairs = changed_map(self._states[-1], list(changes.items()))
         self._add(time, header_digest(self.hasher, last.header), last.following, following, pairs, signers)
 
     def height(self):
@@ -85,6 +68,11 @@ class Node:
             heights.append(at)
         return heights
 
+    def attach(self, block, pairs):
+        """Add a block as it is, with its state; it is not looked at whether it may be added."""
+        self._blocks.append(copied(block))
+        self._states.append(dict(pairs))
+
     def _add(self, time, previous, members, following, pairs, signers):
         """Add the block of the next height, with its state."""
         hasher = self.hasher
@@ -92,8 +80,7 @@ class Node:
         following_root = members_root(hasher, following)
         height = len(self._blocks)
         header = Header(self.chain, height, time, previous, map_root(hasher, pairs), root, following_root)
-        self._blocks.append(Block(header, members, following, votes_for(hasher, header, members, signers)))
-        self._states.append(pairs)
+        self.attach(Block(header, members, following, votes_for(hasher, header, members, signers)), pairs)
 
     def _steps_to(self, start, height, policy, now):
         """Return the next height of the least shortest plan to a height, for each height that is needed.

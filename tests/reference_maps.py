@@ -18,7 +18,12 @@ def within(pairs, prefix):
 
 def source(width, pairs, prefix=""):
     """The input of the node of all entries whose keys begin so."""
-    inside = within(pairs, prefix)
+    return source_of(width, tuple(pairs.items()), prefix)
+
+
+@functools.lru_cache(200000)
+def source_of(width, entries, prefix):
+    inside = within(dict(entries), prefix)
     if not inside:
         return (2, ())
     if len(inside) == 1:
@@ -35,7 +40,12 @@ def root(width, pairs):
 
 
 def proof(width, pairs, key):
-    depth, told = 0, []
+    return proof_of(width, tuple(pairs.items()), key)
+
+
+@functools.lru_cache(20000)
+def proof_of(width, entries, key):
+    depth, told, pairs = 0, [], dict(entries)
     while len(within(pairs, bits(key)[:depth])) > 1:
         beside = bits(key)[:depth] + "10"[int(bits(key)[depth])]
         told += [len(within(pairs, beside)), digest(width, *source(width, pairs, beside))]
