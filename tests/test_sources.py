@@ -33,6 +33,28 @@ FUNCTIONS = {
         "map_changed": "hasher root key value proof", "map_break": "hasher pairs key proof",
         "range_break": "hasher pairs low high proof"},
     "offing.trust": {"step_fault": "hasher policy trusted block now"},
+    "offing.evidence": {
+        "judge_step": "node start block", "judge_steps": "node steps", "verdict_holds": "node verdict",
+        "double_signers": "hasher first second"},
+    "offing.questions": {
+        "is_question": "value", "plain_answer": "hasher pairs question", "proof_of": "hasher pairs question",
+        "answer_of": "hasher root question proof", "answer_break": "hasher pairs question proof",
+        "ask": "client height question proof", "step_holds": "client height changes proof"},
+    "offing.witnesses": {"ask_witness": "client answers height now", "second_client": "client"},
+    "offing.checkpoints": {
+        "log_item": "hasher height header", "compare": "hasher first second proof",
+        "split_paper": "first second size_first size_second", "split_holds": "hasher first second paper",
+        "judge_follower": "log taken proofs", "shown_break": "log size height header proof"},
+    "offing.saving": {
+        "saved_client": "client", "saved_node": "node", "loaded_client": "numbers", "loaded_node": "numbers"},
+    "offing.ledger": {
+        "transfer_fault": "pairs transfer", "moved": "pairs transfer", "run_transfers": "pairs transfers",
+        "transfer_item": "hasher transfer", "made_body": "hasher pairs transfers", "meta_of": "hasher root body",
+        "body_fault": "hasher meta body", "account_proof": "hasher meta pairs key",
+        "account_check": "hasher state key proof"},
+    "offing.fraud": {
+        "fraud_of": "hasher pairs before after body", "fraud_holds": "hasher before after paper",
+        "fraud_break": "hasher pairs before after body paper", "alarm": "client height paper"},
 }
 CLASSES = {
     "offing.errors": {
@@ -58,6 +80,18 @@ CLASSES = {
             "grow": "self time changes following signers", "height": "self", "block": "self height",
             "pairs_at": "self height", "answers": "self", "plan": "self start height policy now"}},
     "offing.trust": {"Policy": {"__init__": "self period drift", "__eq__": "self other"}},
+    "offing.client": {
+        "Client": {
+            "__init__": "self hasher policy block", "heights": "self", "block": "self height",
+            "reach": "self answers height now", "follow": "self answers heights now"}},
+    "offing.checkpoints": {
+        "Log": {
+            "__init__": "self hasher", "add": "self header", "copy": "self", "checkpoint": "self size",
+            "growth": "self old size", "proof": "self size k"},
+        "Follower": {
+            "__init__": "self hasher", "checkpoint": "self", "advance": "self checkpoint proof",
+            "shows": "self height header proof"}},
+    "offing.ledger": {"Body": {"__init__": "self transfers roots", "__eq__": "self other"}},
 }
 
 
